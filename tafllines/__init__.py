@@ -1,0 +1,1 @@
+"""Taflhall: positions, judged, written and read by a hall's rules."""
