@@ -32,6 +32,10 @@ PARTS_NOWHERE = ("dataclass", "overload", "contextmanager")
 WALKED = ("zip", "enumerate", "reversed", "range")
 WALKERS = ("list", "tuple", "dict", "sorted", "sum", "any", "all", "enumerate", "zip", "min", "max")
 
+# The keywords that Python's own names may be called with.
+KEYWORDS = {"sorted": {"key", "reverse"}, "min": {"key", "default"}, "max": {"key", "default"}, "sum": {"start"},
+            "enumerate": {"start"}, "zip": {"strict"}}
+
 
 def package_files():
     return sorted(path for path in PACKAGE.rglob("*") if "__pycache__" not in path.parts)
@@ -175,6 +179,14 @@ class Language(unittest.TestCase):
         for path, node in nodes(ast.Call):
             if is_call_of(node, WALKED):
                 self.assertIn(ast.dump(node), allowed, (path, node.lineno))
+
+    def test_keywords(self):
+        own = {node.name for path, node in nodes(ast.FunctionDef)}
+        for path, node in nodes(ast.Call):
+            given = {keyword.arg for keyword in node.keywords}
+            name = node.func.id if isinstance(node.func, ast.Name) else None
+            if given and name not in own:
+                self.assertLessEqual(given, KEYWORDS.get(name, set()), (path, node.lineno))
 
     def test_is(self):
         for path, node in nodes(ast.Compare):
